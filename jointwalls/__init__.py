@@ -1,0 +1,1 @@
+"""Masonry walls without aligned joints: rows of stones, and how they may lie on each other."""
