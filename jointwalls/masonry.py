@@ -1,15 +1,20 @@
 """The calls on one object, done one behind another, and what each of them answers."""
 
-from jointwalls.rows import is_compatible, is_row, joints_of, rows_of
+from jointwalls.rows import compatible_rows, is_compatible, is_row, joints_of, rows_of
+from jointwalls.totals import GREATEST_TOTAL, fewest_stones
+from jointwalls.walls import count_walls, find_first_wall, find_loneliest, is_wall
 
 NO_INSTANCE = -11
 NOT_THERE = -2
 ALREADY_THERE = -17
 OUT_OF_RANGE = -22
 TOO_MANY = -28
+NONE_SUCH = -33
 
 GREATEST_LENGTH = 9
 MOST_STONE_LENGTHS = 4
+GREATEST_HEIGHT = 8
+MOST_LENGTHS_TOLD = 20
 
 CREATE = 0
 ADD_STONE_LENGTH = 1
@@ -20,9 +25,15 @@ ROW = 5
 JOINTS = 6
 COMPATIBLE_COUNT = 7
 ARE_COMPATIBLE = 8
+WALL_COUNT = 9
+FIRST_WALL = 10
+IS_POSSIBLE_LENGTH = 11
+IMPOSSIBLE_LENGTHS = 12
+MIN_STONES = 13
+LONELIEST_ROW = 14
+CHECK_WALL = 15
 
 # By operation number: how many whole numbers a call has, and how many lists behind them.
-# All operations of the interface stand here, as each of them is refused without an instance.
 SHAPES = (
     (1, 0),  # create
     (1, 0),  # add_stone_length
@@ -85,12 +96,39 @@ def answer_of(masonry, operation, parts):
         return masonry.compatible_count(parts[0])
     if operation == ARE_COMPATIBLE:
         return masonry.are_compatible(parts[0], parts[1])
-    raise NotImplementedError(f"operation {operation}")
+    if operation == WALL_COUNT:
+        return masonry.wall_count(parts[0])
+    if operation == FIRST_WALL:
+        return masonry.first_wall(parts[0])
+    if operation == IS_POSSIBLE_LENGTH:
+        return masonry.is_possible_length(parts[0])
+    if operation == IMPOSSIBLE_LENGTHS:
+        return masonry.impossible_lengths()
+    if operation == MIN_STONES:
+        return masonry.min_stones(parts[0])
+    if operation == LONELIEST_ROW:
+        return masonry.loneliest_row()
+    if operation == CHECK_WALL:
+        return masonry.check_wall(parts[0])
+    # There is no operation behind describe.
+    return masonry.describe()
 
 
 def is_length(number):
     """Whether a row or a stone may have this length."""
     return 1 <= number <= GREATEST_LENGTH
+
+
+def is_total(number):
+    """Whether this length is one that stones may be asked to add up to."""
+    return 0 <= number <= GREATEST_TOTAL
+
+
+def yes_or_no(truth):
+    """What is answered to a question."""
+    if truth:
+        return [1]
+    return [0]
 
 
 def counted(numbers):
@@ -204,6 +242,60 @@ class Masonry:
         for stones in (first, second):
             if not is_row(stones, self.length, self.stone_lengths):
                 return [OUT_OF_RANGE]
-        if is_compatible(first, second):
-            return [1]
-        return [0]
+        return yes_or_no(is_compatible(first, second))
+
+    def wall_count(self, height):
+        """Answers the number of walls of a height."""
+        if not 0 <= height <= GREATEST_HEIGHT:
+            return [OUT_OF_RANGE]
+        return [count_walls(height, compatible_rows(self.rows()))]
+
+    def first_wall(self, height):
+        """Answers the row numbers of the first wall of a height."""
+        if not 1 <= height <= GREATEST_HEIGHT:
+            return [OUT_OF_RANGE]
+        wall = find_first_wall(height, compatible_rows(self.rows()))
+        if len(wall) == 0:
+            return [NONE_SUCH]
+        return counted(wall)
+
+    def is_possible_length(self, m):
+        """Answers whether stones add up to m."""
+        if not is_total(m):
+            return [OUT_OF_RANGE]
+        return yes_or_no(fewest_stones(self.stone_lengths)[m] is not None)
+
+    def impossible_lengths(self):
+        """Answers how many lengths no stones add up to, and the greatest of them, in descending order."""
+        fewest = fewest_stones(self.stone_lengths)
+        lengths = [m for m in range(GREATEST_TOTAL, -1, -1) if fewest[m] is None]
+        return [len(lengths)] + lengths[:MOST_LENGTHS_TOLD]
+
+    def min_stones(self, m):
+        """Answers the smallest number of stones that add up to m."""
+        if not is_total(m):
+            return [OUT_OF_RANGE]
+        fewest = fewest_stones(self.stone_lengths)[m]
+        if fewest is None:
+            return [NONE_SUCH]
+        return [fewest]
+
+    def loneliest_row(self):
+        """Answers the row that is compatible with the fewest rows, and with how many it is."""
+        compatible = compatible_rows(self.rows())
+        if len(compatible) == 0:
+            return [NONE_SUCH]
+        i = find_loneliest(compatible)
+        return [i, len(compatible[i])]
+
+    def check_wall(self, numbers):
+        """Answers whether rows, given by their numbers from bottom to top, are a wall."""
+        rows = self.rows()
+        for i in numbers:
+            if not 0 <= i < len(rows):
+                return [OUT_OF_RANGE]
+        return yes_or_no(is_wall(numbers, compatible_rows(rows)))
+
+    def describe(self):
+        """Answers the length of the wall and the stone lengths."""
+        return [self.length] + counted(self.stone_lengths)

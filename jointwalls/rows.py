@@ -42,10 +42,24 @@ def joints_of(row):
     return joints
 
 
+def joint_bits(row):
+    """The joints of a row as the bits of one number: two of these show at once what rows have in common."""
+    bits = 0
+    for joint in joints_of(row):
+        bits = bits | (1 << joint)
+    return bits
+
+
 def is_compatible(first, second):
     """Whether no joint of one row is a joint of the other."""
-    second_joints = joints_of(second)
-    for joint in joints_of(first):
-        if joint in second_joints:
-            return False
-    return True
+    return (joint_bits(first) & joint_bits(second)) == 0
+
+
+def compatible_rows(rows):
+    """For each row, by its number, the numbers of the rows compatible with it, in ascending order."""
+    # Each row is turned into bits once, as there are far more pairs of rows than rows.
+    bits = [joint_bits(row) for row in rows]
+    compatible = []
+    for own in bits:
+        compatible.append([i for i in range(len(bits)) if (own & bits[i]) == 0])
+    return compatible

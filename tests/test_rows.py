@@ -3,16 +3,9 @@
 import unittest
 
 from helper import (
-    ARE_COMPATIBLE, COMPATIBLE_COUNT, GREATEST, JOINTS, LEAST, REMOVE, ROW, ROW_COUNT, ask, ask_all, build,
-    expected_compatible, expected_joints, expected_rows, instance_after, last, stone_choices,
+    ARE_COMPATIBLE, COMPATIBLE_COUNT, GREATEST, JOINTS, LEAST, REMOVE, ROW, ROW_COUNT, WALLS, ask, ask_all, build,
+    expected_compatible, expected_joints, expected_rows, hold, last, stone_choices,
 )
-
-# Walls with no row, with a row of one stone, with reversed rows, with equal joints and with many rows.
-WALLS = (
-    (1, (1,)), (4, (4,)), (6, (2, 3)), (7, (2, 3, 9)), (8, (5, 3)), (9, (9, 8, 1)), (7, (7, 3, 4, 1)),
-    (9, (4, 3, 2)), (6, (1, 2, 3, 6)),
-)
-
 
 class RowTest(unittest.TestCase):
     def test_rows_and_joints_of_every_wall(self):
@@ -26,10 +19,10 @@ class RowTest(unittest.TestCase):
                 calls = [(operation, i) for operation in (ROW, JOINTS) for i in numbers]
                 wanted = [[len(rows[i])] + rows[i] for i in numbers]
                 wanted += [[len(rows[i]) - 1] + expected_joints(rows[i]) for i in numbers]
-                self.assertEqual(ask_all(start, calls), wanted, (length, stones))
+                hold(self, ask_all(start, calls), wanted, (length, stones))
 
     def test_row_numbers_that_are_not_there(self):
-        for length, stones in (*WALLS, (5, ()), (5, (2, 4))):
+        for length, stones in WALLS:
             count = len(expected_rows(length, stones))
             for operation in (ROW, JOINTS, COMPATIBLE_COUNT):
                 for i in (LEAST, -count, -1, count, count + 1, GREATEST):
@@ -56,7 +49,7 @@ class RowTest(unittest.TestCase):
             rows = expected_rows(9, stones)
             told = ask_all(start, [(ROW, i) for i in range(len(rows))])
             self.assertEqual(last(*start, (ROW_COUNT,)), [len(rows)])
-            self.assertEqual(told, [[len(row)] + row for row in rows])
+            hold(self, told, [[len(row)] + row for row in rows], stones)
             self.assertEqual(last(*start, (ROW, len(rows))), [-2])
         self.assertEqual(last(*build(9, [4, 3, 2, 1]), (ROW_COUNT,)), [208])
 
@@ -71,14 +64,14 @@ class CompatibleTest(unittest.TestCase):
             rows = expected_rows(length, stones)
             pairs = [(first, second) for first in rows for second in rows]
             told = ask_all(build(length, stones), [(ARE_COMPATIBLE, first, second) for first, second in pairs])
-            self.assertEqual(told, [[int(expected_compatible(*pair))] for pair in pairs], (length, stones))
+            hold(self, told, [[int(expected_compatible(*pair))] for pair in pairs], (length, stones))
 
     def test_counts(self):
         for length, stones in (*WALLS, (9, (1, 2, 3, 4))):
             rows = expected_rows(length, stones)
             told = ask_all(build(length, stones), [(COMPATIBLE_COUNT, i) for i in range(len(rows))])
             wanted = [[len([row for row in rows if expected_compatible(row, other)])] for other in rows]
-            self.assertEqual(told, wanted, (length, stones))
+            hold(self, told, wanted, (length, stones))
 
     def test_symmetric_and_the_same_for_reversed_rows(self):
         for length, stones in WALLS:
@@ -88,8 +81,8 @@ class CompatibleTest(unittest.TestCase):
             told = ask_all(start, [(ARE_COMPATIBLE, first, second) for first, second in pairs])
             turned = ask_all(start, [(ARE_COMPATIBLE, second, first) for first, second in pairs])
             reverse = ask_all(start, [(ARE_COMPATIBLE, first[::-1], second[::-1]) for first, second in pairs])
-            self.assertEqual(turned, told)
-            self.assertEqual(reverse, told)
+            hold(self, turned, told, (length, stones))
+            hold(self, reverse, told, (length, stones))
 
     def test_a_row_against_itself(self):
         start = build(6, [6, 3, 2, 1])
@@ -117,21 +110,6 @@ class CompatibleTest(unittest.TestCase):
     def test_no_list_is_a_row_without_stone_lengths(self):
         told = ask(*build(6, []), (ARE_COMPATIBLE, [], []), (ARE_COMPATIBLE, [6], [6]))
         self.assertEqual(told[1:], [[-22], [-22]])
-
-
-class UnchangedTest(unittest.TestCase):
-    def test_calls_from_number_4_on_leave_the_instance(self):
-        calls = [
-            (ROW_COUNT,), (ROW, 1), (ROW, -1), (ROW, 2), (JOINTS, 1), (JOINTS, -1), (JOINTS, 2), (COMPATIBLE_COUNT, 1),
-            (COMPATIBLE_COUNT, -1), (COMPATIBLE_COUNT, 2), (ARE_COMPATIBLE, [3, 3], [2, 2, 2]),
-            (ARE_COMPATIBLE, [3, 3], [3, 3]), (ARE_COMPATIBLE, [], [5, 1]), (ARE_COMPATIBLE, [2, 2, 2], [4]),
-        ]
-        rows = [(ROW_COUNT,), (ROW, 0), (ROW, 1), (JOINTS, 0), (JOINTS, 1), (COMPATIBLE_COUNT, 0)]
-        wanted = ask(*build(6, [3, 2]), *rows)[3:]
-        for call in calls:
-            self.assertEqual(instance_after(*build(6, [3, 2]), call), (6, [2, 3]), call)
-            self.assertEqual(ask(*build(6, [3, 2]), call, *rows)[4:], wanted, call)
-        self.assertEqual(instance_after(*build(6, [3, 2]), *calls), (6, [2, 3]))
 
 
 if __name__ == "__main__":
